@@ -35,33 +35,18 @@ func newChain(t *testing.T, p api.Params) *chain.Chain {
 	return c
 }
 
-// child returns a block behind another one, with a coinbase that claims, and more transactions.
-func child(parent api.Block, tag int, claim int64, l ...api.Tx) api.Block {
-	base := sample.Coinbase(tag, sample.Out(claim, sample.Yes()))
-	return sample.Block(sample.Hash(parent), parent.Header.Time+100, sample.Easy, append([]api.Tx{base}, l...)...)
-}
-
-func genesis(t *testing.T, p api.Params) api.Block {
-	t.Helper()
-	b, e := pow.Genesis(p)
-	if e != api.OK {
-		t.Fatal(e)
-	}
-	return b
-}
-
 // line returns n blocks, each behind the one before it, the first one behind a block.
 func line(behind api.Block, tag, n int) []api.Block {
 	var l []api.Block
 	for i := range n {
-		behind = child(behind, tag+i, 5)
+		behind = sample.Child(behind, tag+i, 5)
 		l = append(l, behind)
 	}
 	return l
 }
 
 // bad returns a block that claims too much.
-func bad(parent api.Block, tag int) api.Block { return child(parent, tag, 51) }
+func bad(parent api.Block, tag int) api.Block { return sample.Child(parent, tag, 51) }
 
 func hashes(l ...api.Block) []api.Hash {
 	var h []api.Hash
@@ -217,7 +202,7 @@ func (b *bench) again() {
 // P28.1
 func TestNew(t *testing.T) {
 	p := sample.Params()
-	c, g := newChain(t, p), genesis(t, p)
+	c, g := newChain(t, p), sample.Genesis(p)
 	hash := sample.Hash(g)
 	x, ok := c.Block(hash)
 	if c.Tip() != hash || !ok || !block.Same(x, g) || c.Status(hash) != active || len(c.Orphans()) != 0 {
@@ -255,7 +240,7 @@ func TestFirst(t *testing.T) {
 	if e != api.OK || len(l) != 2 || l[0].Kind != api.KindParams || hex.EncodeToString(l[0].Payload) != want {
 		t.Fatal(l, e)
 	}
-	if l[1].Kind != api.KindBlock || !bytes.Equal(l[1].Payload, sample.Bytes(genesis(t, p))) {
+	if l[1].Kind != api.KindBlock || !bytes.Equal(l[1].Payload, sample.Bytes(sample.Genesis(p))) {
 		t.Error(l[1])
 	}
 }
@@ -263,7 +248,7 @@ func TestFirst(t *testing.T) {
 // The chapter's examples.
 func TestExamples(t *testing.T) {
 	p := sample.Params()
-	g := genesis(t, p)
+	g := sample.Genesis(p)
 	b := newBench(t, p)
 	b.refuseBytes(nil, api.ErrRaw)
 	b.refuse(g, api.ErrKnown)
@@ -278,10 +263,10 @@ func TestExamples(t *testing.T) {
 func TestErrors(t *testing.T) {
 	p := sample.Params()
 	p.Extra = 1
-	g := genesis(t, p)
+	g := sample.Genesis(p)
 	b := newBench(t, p)
 	l := line(g, 0, 2)
-	x := child(l[0], 9, 50)
+	x := sample.Child(l[0], 9, 50)
 	encoded := sample.Bytes(x)
 	b.refuseBytes(encoded[:len(encoded)-1], api.ErrRaw)
 	b.refuseBytes(append(slices.Clone(encoded), 0), api.ErrRaw)
@@ -334,7 +319,7 @@ func TestErrors(t *testing.T) {
 // P28.2
 func TestSideBranchesAndReorganization(t *testing.T) {
 	p := sample.Params()
-	g := genesis(t, p)
+	g := sample.Genesis(p)
 	b := newBench(t, p)
 	first, second := line(g, 0, 3), line(g, 50, 5)
 	b.submit(first[0], active, api.OK, 1, 4)
@@ -353,7 +338,7 @@ func TestSideBranchesAndReorganization(t *testing.T) {
 	b.submit(first[2], side, api.OK, 1)
 	b.submit(second[4], orphan, api.OK, 1)
 	b.submit(second[3], active, api.OK, 1, 6, 4, 4)
-	b.submit(child(second[1], 99, 5), side, api.OK, 1)
+	b.submit(sample.Child(second[1], 99, 5), side, api.OK, 1)
 	cut, e := coin.CutOf(b.groups[4][1].Payload)
 	if cut != 0 || e != api.OK {
 		t.Error(cut, e)
@@ -364,16 +349,16 @@ func TestSideBranchesAndReorganization(t *testing.T) {
 // P28.2: a reorganization that fails
 func TestMarked(t *testing.T) {
 	p := sample.Params()
-	g := genesis(t, p)
+	g := sample.Genesis(p)
 	b := newBench(t, p)
 	b.submit(bad(g, 0), marked, api.ErrClaim, 1, 2)
-	b.refuse(child(bad(g, 0), 1, 5), api.ErrBranch)
+	b.refuse(sample.Child(bad(g, 0), 1, 5), api.ErrBranch)
 	l := line(g, 10, 2)
 	b.submit(l[0], active, api.OK, 1, 4)
 	b.submit(l[1], active, api.OK, 1, 4)
 	other := line(g, 20, 1)
 	wrong := bad(other[0], 21)
-	after := child(wrong, 22, 5)
+	after := sample.Child(wrong, 22, 5)
 	b.submit(other[0], side, api.OK, 1)
 	b.submit(wrong, side, api.OK, 1)
 	b.submit(after, marked, api.ErrClaim, 1, 3, 4, 2, 3, 4, 4)
@@ -389,25 +374,25 @@ func TestMarked(t *testing.T) {
 	if n, ok := b.c.Node(sample.Hash(after)); n.Marked || !ok {
 		t.Error(n)
 	}
-	b.refuse(child(after, 23, 5), api.ErrBranch)
-	early := child(after, 23, 5)
+	b.refuse(sample.Child(after, 23, 5), api.ErrBranch)
+	early := sample.Child(after, 23, 5)
 	early.Header.Time = 1
 	b.refuse(sample.Mined(early), api.ErrTime)
-	b.submit(child(other[0], 24, 5), side, api.OK, 1)
+	b.submit(sample.Child(other[0], 24, 5), side, api.OK, 1)
 	b.again()
 }
 
 // P28.2: the submitted block is on a branch of its own, and another one is marked
 func TestMarkedElsewhere(t *testing.T) {
 	p := sample.Params()
-	g := genesis(t, p)
+	g := sample.Genesis(p)
 	b := newBench(t, p)
 	l := line(g, 0, 1)
 	b.submit(l[0], active, api.OK)
-	x := child(g, 10, 5)
-	good, wrong := child(x, 11, 5), bad(x, 12)
+	x := sample.Child(g, 10, 5)
+	good, wrong := sample.Child(x, 11, 5), bad(x, 12)
 	b.submit(wrong, orphan, api.OK)
-	b.submit(child(wrong, 13, 5), orphan, api.OK)
+	b.submit(sample.Child(wrong, 13, 5), orphan, api.OK)
 	b.submit(good, orphan, api.OK)
 	b.submit(x, active, api.OK, 1, 6, 6, 6, 3, 4, 2, 4)
 	if b.c.Tip() != sample.Hash(good) {
@@ -419,15 +404,15 @@ func TestMarkedElsewhere(t *testing.T) {
 // P28.2: all of a branch is found to be wrong, and the submitted block is beside it
 func TestSideBesideMarked(t *testing.T) {
 	p := sample.Params()
-	g := genesis(t, p)
+	g := sample.Genesis(p)
 	b := newBench(t, p)
 	l := line(g, 0, 2)
 	b.submit(l[0], active, api.OK)
 	b.submit(l[1], active, api.OK)
-	x := child(g, 10, 5)
+	x := sample.Child(g, 10, 5)
 	wrong := bad(x, 12)
 	b.submit(wrong, orphan, api.OK)
-	b.submit(child(wrong, 13, 5), orphan, api.OK)
+	b.submit(sample.Child(wrong, 13, 5), orphan, api.OK)
 	b.submit(x, side, api.OK, 1, 6, 6, 3, 4, 2, 3, 4, 4)
 	b.again()
 }
@@ -435,7 +420,7 @@ func TestSideBesideMarked(t *testing.T) {
 // P28.2: the errors of the coins
 func TestErrorsOfCoins(t *testing.T) {
 	p := sample.Params()
-	g := genesis(t, p)
+	g := sample.Genesis(p)
 	b := newBench(t, p)
 	l := line(g, 0, 3)
 	for _, x := range l {
@@ -453,30 +438,30 @@ func TestErrorsOfCoins(t *testing.T) {
 		{[]api.Tx{locked, sample.Pay([]api.Outpoint{sample.Point(locked, 0)}, sample.Out(5, nil))}, api.ErrScript},
 		{[]api.Tx{pay(0, 6)}, api.ErrSpends},
 	} {
-		b.submit(child(l[2], 100+tag, 5, c.l...), marked, c.e, 1, 2)
+		b.submit(sample.Child(l[2], 100+tag, 5, c.l...), marked, c.e, 1, 2)
 	}
 	again := sample.Block(sample.Hash(l[2]), l[2].Header.Time+1, sample.Easy, l[0].Txs[0])
 	b.submit(again, marked, api.ErrTwice, 1, 2)
-	good := child(l[2], 7, 5, pay(0, 3), pay(1, 5))
+	good := sample.Child(l[2], 7, 5, pay(0, 3), pay(1, 5))
 	b.submit(good, active, api.OK, 1, 4)
-	b.submit(child(good, 8, 5, pay(0, 3)), marked, api.ErrTwice, 1, 2)
-	b.submit(child(good, 9, 5, pay(0, 2)), marked, api.ErrMissing, 1, 2)
-	b.submit(child(l[2], 10, 5, pay(0, 3)), side, api.OK, 1)
+	b.submit(sample.Child(good, 8, 5, pay(0, 3)), marked, api.ErrTwice, 1, 2)
+	b.submit(sample.Child(good, 9, 5, pay(0, 2)), marked, api.ErrMissing, 1, 2)
+	b.submit(sample.Child(l[2], 10, 5, pay(0, 3)), side, api.OK, 1)
 	b.again()
 }
 
 // P28.2: what was spent on one branch is unspent on the other
 func TestCoinsOfBranches(t *testing.T) {
 	p := sample.Params()
-	g := genesis(t, p)
+	g := sample.Genesis(p)
 	b := newBench(t, p)
 	l := line(g, 0, 2)
 	b.submit(l[0], active, api.OK)
 	b.submit(l[1], active, api.OK)
 	points := []api.Outpoint{sample.Point(l[0].Txs[0], 0)}
-	first := child(l[1], 10, 5, sample.Pay(points, sample.Out(4, []byte{0x52})))
-	second := child(l[1], 11, 5, sample.Pay(points, sample.Out(3, []byte{0x53})))
-	third := child(second, 12, 5)
+	first := sample.Child(l[1], 10, 5, sample.Pay(points, sample.Out(4, []byte{0x52})))
+	second := sample.Child(l[1], 11, 5, sample.Pay(points, sample.Out(3, []byte{0x53})))
+	third := sample.Child(second, 12, 5)
 	b.submit(first, active, api.OK, 1, 4)
 	b.submit(second, side, api.OK, 1)
 	if n, _ := b.c.Store().Balance([]byte{0x52}, 3); n != 4 {
@@ -496,7 +481,7 @@ func TestCoinsOfBranches(t *testing.T) {
 func TestDepth(t *testing.T) {
 	p := sample.Params()
 	p.Depth = 2
-	g := genesis(t, p)
+	g := sample.Genesis(p)
 	b := newBench(t, p)
 	l := line(g, 0, 4)
 	for _, x := range l {
@@ -521,7 +506,7 @@ func TestDepth(t *testing.T) {
 func TestDepthOfOrphans(t *testing.T) {
 	p := sample.Params()
 	p.Depth = 1
-	g := genesis(t, p)
+	g := sample.Genesis(p)
 	b := newBench(t, p)
 	l := line(g, 0, 2)
 	b.submit(l[0], active, api.OK)
@@ -543,7 +528,7 @@ func TestDepthOfOrphans(t *testing.T) {
 func TestDepthAfterFailure(t *testing.T) {
 	p := sample.Params()
 	p.Depth = 2
-	g := genesis(t, p)
+	g := sample.Genesis(p)
 	b := newBench(t, p)
 	l := line(g, 0, 3)
 	for _, x := range l {
@@ -562,7 +547,7 @@ func TestDepthAfterFailure(t *testing.T) {
 func TestOrphans(t *testing.T) {
 	p := sample.Params()
 	p.Extra = 4
-	g := genesis(t, p)
+	g := sample.Genesis(p)
 	b := newBench(t, p)
 	l := line(g, 0, 6)
 	for _, i := range []int{5, 2, 4, 3} {
@@ -587,15 +572,15 @@ func TestOrphans(t *testing.T) {
 func TestDroppedOrphans(t *testing.T) {
 	p := sample.Params()
 	p.Extra = 8
-	g := genesis(t, p)
+	g := sample.Genesis(p)
 	b := newBench(t, p)
-	x := child(g, 0, 5)
-	early := child(x, 1, 5)
+	x := sample.Child(g, 0, 5)
+	early := sample.Child(x, 1, 5)
 	early.Header.Time = 1000 // not above the median
 	early = sample.Mined(early)
-	first, second := child(early, 2, 5), child(early, 3, 5)
-	third := child(first, 4, 5)
-	good := child(x, 5, 5)
+	first, second := sample.Child(early, 2, 5), sample.Child(early, 3, 5)
+	third := sample.Child(first, 4, 5)
+	good := sample.Child(x, 5, 5)
 	for _, y := range []api.Block{third, good, first, early, second} {
 		b.submit(y, orphan, api.OK, 1)
 	}
@@ -619,10 +604,10 @@ func TestDroppedOrphans(t *testing.T) {
 // P28.2: orphans behind a bad block
 func TestOrphansBehindMarked(t *testing.T) {
 	p := sample.Params()
-	g := genesis(t, p)
+	g := sample.Genesis(p)
 	b := newBench(t, p)
 	wrong := bad(g, 0)
-	next := child(wrong, 1, 5)
+	next := sample.Child(wrong, 1, 5)
 	b.submit(next, orphan, api.OK)
 	b.submit(wrong, marked, api.ErrClaim, 1, 6, 2)
 	if b.c.Status(sample.Hash(next)) != marked {
@@ -636,7 +621,7 @@ func TestRetarget(t *testing.T) {
 	p := sample.Params()
 	p.Every, p.Span = 4, 400
 	b := newBench(t, p)
-	last := genesis(t, p)
+	last := sample.Genesis(p)
 	var path []api.Header
 	for height := 1; height < 14; height++ {
 		path = append(path, last.Header)
@@ -681,7 +666,7 @@ func TestNoChain(t *testing.T) {
 // P28.4, P28.5
 func TestNothingIsShared(t *testing.T) {
 	p := sample.Params()
-	g := genesis(t, p)
+	g := sample.Genesis(p)
 	b := newBench(t, p)
 	l := line(g, 0, 3)
 	encoded := sample.Bytes(l[0])

@@ -49,7 +49,7 @@ func applied(t *testing.T, p api.Params, before []api.Block, b api.Block) api.Re
 func TestReplay(t *testing.T) {
 	p := sample.Params()
 	p.Extra = 1
-	g := genesis(t, p)
+	g := sample.Genesis(p)
 	l := line(g, 0, 3)
 	other := line(g, 20, 2)
 	one, two := applied(t, p, nil, l[0]), applied(t, p, l[:1], l[1])
@@ -70,8 +70,8 @@ func TestReplay(t *testing.T) {
 		"more than a block":       {[]api.Record{rec(api.KindBlock, long)}, api.ErrChain},
 		"an orphan":               {[]api.Record{added(l[2])}, api.OK},
 		"an orphan twice":         {[]api.Record{added(l[2]), added(l[2])}, api.ErrChain},
-		"too many orphans":        {[]api.Record{added(l[2]), added(child(l[2], 9, 5))}, api.ErrChain},
-		"an orphan dropped":       {[]api.Record{added(l[2]), named(api.KindDropped, l[2]), added(child(l[2], 9, 5))}, api.OK},
+		"too many orphans":        {[]api.Record{added(l[2]), added(sample.Child(l[2], 9, 5))}, api.ErrChain},
+		"an orphan dropped":       {[]api.Record{added(l[2]), named(api.KindDropped, l[2]), added(sample.Child(l[2], 9, 5))}, api.OK},
 		"none dropped":            {[]api.Record{named(api.KindDropped, l[2])}, api.ErrChain},
 		"dropped from the tree":   {[]api.Record{named(api.KindDropped, l[0])}, api.ErrChain},
 		"dropped, no hash":        {[]api.Record{added(l[2]), rec(api.KindDropped, make([]byte, 31))}, api.ErrChain},
@@ -98,7 +98,7 @@ func TestReplay(t *testing.T) {
 		"cut and applied":         {[]api.Record{cutAt(0), second}, api.OK},
 		"cut, applied behind":     {[]api.Record{cutAt(0), added(l[1]), two}, api.ErrChain},
 		"applied again":           {[]api.Record{cutAt(0), one}, api.OK},
-		"of another height":       {[]api.Record{added(l[1]), applied(t, p, nil, child(g, 77, 5))}, api.ErrChain},
+		"of another height":       {[]api.Record{added(l[1]), applied(t, p, nil, sample.Child(g, 77, 5))}, api.ErrChain},
 		"changes do not fit":      {[]api.Record{added(l[1]), rec(api.KindApply, wrongChanges)}, api.ErrChain},
 		"no changes":              {[]api.Record{added(l[1]), rec(api.KindApply, nil)}, api.ErrChain},
 		"parameters":              {[]api.Record{rec(api.KindParams, nil)}, api.ErrChain},
@@ -127,7 +127,7 @@ func TestReplay(t *testing.T) {
 // P28.2: changes that do not fit, after records that no submission reported
 func TestErrChain(t *testing.T) {
 	p := sample.Params()
-	g := genesis(t, p)
+	g := sample.Genesis(p)
 	c := newChain(t, p)
 	l := line(g, 0, 2)
 	changes, _ := coin.Encode(api.Apply{Height: 1, Block: sample.Hash(l[0]), Burnt: api.MaxMoney - 50, Left: api.MaxMoney})
@@ -145,51 +145,21 @@ func TestErrChain(t *testing.T) {
 // P28.2: orphans that records left in the pool, although their parents are bad
 func TestOrphanOfMarked(t *testing.T) {
 	p := sample.Params()
-	g := genesis(t, p)
+	g := sample.Genesis(p)
 	c := newChain(t, p)
-	x := child(g, 0, 5)
-	y := child(x, 1, 5)
-	z := child(y, 2, 5)
+	x := sample.Child(g, 0, 5)
+	y := sample.Child(x, 1, 5)
+	z := sample.Child(y, 2, 5)
 	if e := c.Replay([]api.Record{added(y), added(z), added(x), named(api.KindMarked, x)}); e != api.OK {
 		t.Fatal(e)
 	}
-	reply, group, e := c.Submit(sample.Bytes(child(g, 3, 5)))
+	reply, group, e := c.Submit(sample.Bytes(sample.Child(g, 3, 5)))
 	if e != api.OK || reply.Status != active || !slices.Equal(kinds(group), []int{1, 5, 5, 4}) {
 		t.Error(reply, kinds(group), e)
 	}
-	if e := c.Replay([]api.Record{named(api.KindMarked, child(g, 9, 5))}); e != api.ErrChain {
+	if e := c.Replay([]api.Record{named(api.KindMarked, sample.Child(g, 9, 5))}); e != api.ErrChain {
 		t.Error(e)
 	}
-}
-
-// forest returns blocks of many branches, some of which are wrong, parents ahead of their children.
-func forest(t *testing.T, r *rand.Rand, p api.Params, n int) []api.Block {
-	t.Helper()
-	l := []api.Block{genesis(t, p)}
-	for tag := range n {
-		parent := l[len(l)-1]
-		if r.Intn(4) == 0 {
-			parent = l[max(0, len(l)-1-r.Intn(9))]
-		}
-		claim := int64(5)
-		var more []api.Tx
-		switch r.Intn(12) {
-		case 0:
-			claim = 51
-		case 1:
-			more = append(more, sample.Pay([]api.Outpoint{{Tx: api.Hash{byte(tag)}}}, sample.Out(0, nil)))
-		case 2, 3, 4, 5:
-			from := l[r.Intn(len(l))].Txs[0]
-			more = append(more, sample.Pay([]api.Outpoint{sample.Point(from, 0)}, sample.Out(r.Int63n(6), sample.Yes())))
-		}
-		b := child(parent, tag, claim, more...)
-		if r.Intn(12) == 0 {
-			b.Header.Time = 1000
-			b = sample.Mined(b)
-		}
-		l = append(l, b)
-	}
-	return l[1:]
 }
 
 // P28.2, P28.6
@@ -199,11 +169,7 @@ func TestForests(t *testing.T) {
 	for range 60 {
 		p := sample.Params()
 		p.Extra, p.Depth = r.Intn(8), 1+r.Intn(4)
-		l := forest(t, r, p, 30)
-		for i := range l {
-			j := min(len(l)-1, i+r.Intn(3))
-			l[i], l[j] = l[j], l[i]
-		}
+		l := sample.Forest(p, 30, r.Intn)
 		b := newBench(t, p)
 		for _, x := range append(l, l...) {
 			before := b.c.Copy()
@@ -239,7 +205,7 @@ func TestForests(t *testing.T) {
 func TestSubmitCopies(t *testing.T) {
 	p := sample.Params()
 	c := newChain(t, p)
-	x := child(genesis(t, p), 0, 5)
+	x := sample.Child(sample.Genesis(p), 0, 5)
 	room := append(sample.Bytes(x), 1, 2, 3)
 	reply, group, e := c.Submit(room[:len(room)-3])
 	if e != api.OK || reply.Status != active {

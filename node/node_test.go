@@ -14,7 +14,6 @@ import (
 	"purser/explorer"
 	"purser/log"
 	"purser/node"
-	"purser/pow"
 	"purser/sample"
 )
 
@@ -36,21 +35,6 @@ func open(t *testing.T, d *disk.Disk, p api.Params) *node.Node {
 		t.Fatal(e)
 	}
 	return n
-}
-
-func genesis(t *testing.T, p api.Params) api.Block {
-	t.Helper()
-	b, e := pow.Genesis(p)
-	if e != api.OK {
-		t.Fatal(e)
-	}
-	return b
-}
-
-// child returns a block behind another one, with a coinbase that claims, and more transactions.
-func child(parent api.Block, tag int, claim int64, l ...api.Tx) api.Block {
-	base := sample.Coinbase(tag, sample.Out(claim, sample.Yes()))
-	return sample.Block(sample.Hash(parent), parent.Header.Time+100, sample.Easy, append([]api.Tx{base}, l...)...)
 }
 
 func command(t *testing.T, r api.Request) []byte {
@@ -106,7 +90,7 @@ func TestExamples(t *testing.T) {
 	p := sample.Params()
 	d := newDisk(t, 100000)
 	n := open(t, d, p)
-	hash := sample.Hash(genesis(t, p))
+	hash := sample.Hash(sample.Genesis(p))
 	do(t, n, []byte{0x0A}, replied(api.OK, make([]byte, 4), hash[:]))
 	do(t, n, nil, []byte{0x22, 0x01})
 	do(t, n, []byte{0x01}, []byte{0x18, 0x01})
@@ -169,7 +153,7 @@ func TestOpen(t *testing.T) {
 func TestWrongGroups(t *testing.T) {
 	p := sample.Params()
 	first, _ := chain.First(p)
-	block := sample.Bytes(child(genesis(t, p), 0, 5))
+	block := sample.Bytes(sample.Child(sample.Genesis(p), 0, 5))
 	for name, c := range map[string]struct {
 		groups [][]api.Record
 		e      api.Errno
@@ -205,20 +189,20 @@ func TestWrongGroups(t *testing.T) {
 // P30.2
 func TestDo(t *testing.T) {
 	p := sample.Params()
-	g := genesis(t, p)
+	g := sample.Genesis(p)
 	n := open(t, newDisk(t, 100000), p)
-	a := child(g, 0, 5)
-	b := child(a, 1, 5)
-	wrong := child(a, 2, 51)
-	side := child(g, 3, 5)
+	a := sample.Child(g, 0, 5)
+	b := sample.Child(a, 1, 5)
+	wrong := sample.Child(a, 2, 51)
+	side := sample.Child(g, 3, 5)
 	do(t, n, submitted(b), became(b, api.StatusOrphan, api.OK))
 	do(t, n, submitted(a), became(a, api.StatusActive, api.OK))
 	do(t, n, submitted(side), became(side, api.StatusSide, api.OK))
 	do(t, n, submitted(wrong), became(wrong, api.StatusSide, api.OK))
-	marked := child(b, 4, 51)
+	marked := sample.Child(b, 4, 51)
 	do(t, n, submitted(marked), became(marked, api.StatusMarked, api.ErrClaim))
 	do(t, n, submitted(marked), replied(api.ErrKnown))
-	do(t, n, submitted(child(marked, 5, 5)), replied(api.ErrBranch))
+	do(t, n, submitted(sample.Child(marked, 5, 5)), replied(api.ErrBranch))
 	if n.Count() != 6 {
 		t.Error(n.Count())
 	}
@@ -241,8 +225,8 @@ func TestDo(t *testing.T) {
 // P30.2, P30.3
 func TestShut(t *testing.T) {
 	p := sample.Params()
-	g := genesis(t, p)
-	for name, command := range map[string][]byte{"submit": submitted(child(g, 0, 5)), "check": {api.AskCheck}} {
+	g := sample.Genesis(p)
+	for name, command := range map[string][]byte{"submit": submitted(sample.Child(g, 0, 5)), "check": {api.AskCheck}} {
 		d := newDisk(t, 100000)
 		n := open(t, d, p)
 		d.Fall(api.Fall{})
@@ -275,10 +259,10 @@ func TestMostSegments(t *testing.T) {
 		t.Fatal(e)
 	}
 	first, _ := chain.First(p)
-	last := genesis(t, p)
+	last := sample.Genesis(p)
 	l.Append(first)
 	for tag := range 999 {
-		last = child(last, tag, 5)
+		last = sample.Child(last, tag, 5)
 		if e := l.Append([]api.Record{{Kind: api.KindBlock, Payload: sample.Bytes(last)}}); e != api.OK {
 			t.Fatal(e)
 		}
@@ -288,7 +272,7 @@ func TestMostSegments(t *testing.T) {
 		t.Fatal(e)
 	}
 	do(t, n, []byte{api.AskCheck}, replied(api.OK))
-	next := child(genesis(t, p), 5000, 5)
+	next := sample.Child(sample.Genesis(p), 5000, 5)
 	if e, _, _ := node.Parse(n.Do(submitted(next))); e != api.OK || n.Shut() {
 		t.Fatal(e)
 	}
@@ -339,7 +323,7 @@ func TestNothingIsShared(t *testing.T) {
 	p := sample.Params()
 	d := newDisk(t, 100000)
 	n := open(t, d, p)
-	a := child(genesis(t, p), 0, 5)
+	a := sample.Child(sample.Genesis(p), 0, 5)
 	command := submitted(a)
 	reply := n.Do(command)
 	clear(command)
@@ -362,7 +346,7 @@ func TestNothingIsShared(t *testing.T) {
 func TestTooMuchForAGroup(t *testing.T) {
 	p := sample.Params()
 	p.Maturity, p.Extra = 1, 50
-	last := child(genesis(t, p), 0, 5)
+	last := sample.Child(sample.Genesis(p), 0, 5)
 	l := []api.Block{last}
 	for tag := 1; tag < 19; tag++ {
 		points := []api.Outpoint{sample.Point(last.Txs[0], 0)}
@@ -376,7 +360,7 @@ func TestTooMuchForAGroup(t *testing.T) {
 			txs = append(txs, x)
 			points = []api.Outpoint{sample.Point(x, 0)}
 		}
-		last = child(last, tag, 5, txs...)
+		last = sample.Child(last, tag, 5, txs...)
 		l = append(l, last)
 	}
 	d := newDisk(t, 1<<24)

@@ -50,35 +50,6 @@ func (m *model) do(t *testing.T, b []byte) []byte {
 	return replied(e, data)
 }
 
-// forest returns blocks of several branches, some of which are wrong, in an order in which some are orphans.
-func forest(t *testing.T, r *rand.Rand, p api.Params, n int) []api.Block {
-	t.Helper()
-	l := []api.Block{genesis(t, p)}
-	for tag := range n {
-		parent := l[len(l)-1]
-		if r.Intn(3) == 0 {
-			parent = l[max(0, len(l)-1-r.Intn(8))]
-		}
-		claim := int64(5)
-		var more []api.Tx
-		switch r.Intn(10) {
-		case 0:
-			claim = 51
-		case 1, 2, 3, 4:
-			from := l[r.Intn(len(l))].Txs[0]
-			scripts := [][]byte{sample.Yes(), {api.OpReturn}, {0x52}}
-			more = append(more, sample.Pay([]api.Outpoint{sample.Point(from, 0)}, sample.Out(r.Int63n(6), scripts[r.Intn(3)])))
-		}
-		l = append(l, child(parent, tag, claim, more...))
-	}
-	l = l[1:]
-	for i := range l {
-		j := min(len(l)-1, i+r.Intn(3))
-		l[i], l[j] = l[j], l[i]
-	}
-	return l
-}
-
 // queries returns requests of all kinds, about these blocks and others.
 func queries(t *testing.T, r *rand.Rand, l []api.Block) [][]byte {
 	t.Helper()
@@ -106,7 +77,7 @@ func TestAgainstTheModel(t *testing.T) {
 		p.Extra, p.Depth = r.Intn(6), 1+r.Intn(4)
 		d := newDisk(t, 1<<22)
 		n, m := open(t, d, p), newModel(t, p)
-		l := forest(t, r, p, 25)
+		l := sample.Forest(p, 25, r.Intn)
 		for _, b := range append(l, l...) {
 			for _, command := range [][]byte{submitted(b), {api.AskCheck}, {byte(r.Intn(256)), byte(r.Intn(256))}} {
 				if got, want := n.Do(command), m.do(t, command); !bytes.Equal(got, want) {
@@ -132,13 +103,13 @@ func TestHeightsStay(t *testing.T) {
 	n := open(t, newDisk(t, 1<<22), p)
 	var l []api.Block
 	answers := map[string][]byte{}
-	last := genesis(t, p)
+	last := sample.Genesis(p)
 	for height := range 12 {
 		var more []api.Tx
 		if height > 2 {
 			more = append(more, sample.Pay([]api.Outpoint{sample.Point(l[height-3].Txs[0], 0)}, sample.Out(4, []byte{0x52})))
 		}
-		last = child(last, height, 20, more...)
+		last = sample.Child(last, height, 20, more...)
 		l = append(l, last)
 		do(t, n, submitted(last), became(last, api.StatusActive, api.OK))
 		for _, b := range l {
@@ -163,21 +134,21 @@ func TestHeightsStay(t *testing.T) {
 // steps returns commands for crashes: submissions of many kinds, and checkpoints.
 func steps(t *testing.T, p api.Params) (l []api.Block, all [][]byte) {
 	t.Helper()
-	g := genesis(t, p)
-	a := child(g, 0, 5)
-	b := child(a, 1, 5)
-	c := child(b, 2, 5, sample.Pay([]api.Outpoint{sample.Point(a.Txs[0], 0)}, sample.Out(5, []byte{0x52})))
-	x := child(a, 10, 5)
-	wrong := child(x, 11, 51)
-	y, z := child(x, 12, 5), child(x, 13, 5)
-	y2 := child(y, 14, 5)
-	y3 := child(y2, 15, 5, sample.Pay([]api.Outpoint{sample.Point(a.Txs[0], 0)}, sample.Out(1, []byte{api.OpReturn})))
-	late := child(y3, 16, 5)
-	early := child(late, 17, 5)
+	g := sample.Genesis(p)
+	a := sample.Child(g, 0, 5)
+	b := sample.Child(a, 1, 5)
+	c := sample.Child(b, 2, 5, sample.Pay([]api.Outpoint{sample.Point(a.Txs[0], 0)}, sample.Out(5, []byte{0x52})))
+	x := sample.Child(a, 10, 5)
+	wrong := sample.Child(x, 11, 51)
+	y, z := sample.Child(x, 12, 5), sample.Child(x, 13, 5)
+	y2 := sample.Child(y, 14, 5)
+	y3 := sample.Child(y2, 15, 5, sample.Pay([]api.Outpoint{sample.Point(a.Txs[0], 0)}, sample.Out(1, []byte{api.OpReturn})))
+	late := sample.Child(y3, 16, 5)
+	early := sample.Child(late, 17, 5)
 	early.Header.Time = 1000
 	early = sample.Mined(early)
-	lost := child(early, 18, 5)
-	last := child(late, 19, 5)
+	lost := sample.Child(early, 18, 5)
+	last := sample.Child(late, 19, 5)
 	l = []api.Block{a, b, wrong, c, x, lost, early, z, y, y2, y3, last, late}
 	for i, b := range l {
 		all = append(all, submitted(b))
@@ -320,14 +291,14 @@ func TestFull(t *testing.T) {
 func TestRefused(t *testing.T) {
 	p := sample.Params()
 	p.Depth, p.Extra = 1, 1
-	g := genesis(t, p)
+	g := sample.Genesis(p)
 	d := newDisk(t, 1<<20)
 	n := open(t, d, p)
-	a := child(g, 0, 5)
-	b := child(a, 1, 5)
-	x := child(g, 10, 5)
-	y := child(x, 11, 5)
-	z := child(y, 12, 5)
+	a := sample.Child(g, 0, 5)
+	b := sample.Child(a, 1, 5)
+	x := sample.Child(g, 10, 5)
+	y := sample.Child(x, 11, 5)
+	z := sample.Child(y, 12, 5)
 	for _, b := range []api.Block{a, b, x, y} {
 		if e, _, _ := node.Parse(n.Do(submitted(b))); e != api.OK {
 			t.Fatal(e)

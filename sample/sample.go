@@ -5,6 +5,7 @@ import (
 	"purser/api"
 	"purser/block"
 	"purser/merkle"
+	"purser/pow"
 	"purser/target"
 	"purser/tx"
 )
@@ -77,4 +78,52 @@ func Mined(b api.Block) api.Block {
 		b.Header.Nonce++
 	}
 	return b
+}
+
+// Genesis returns the genesis block of p.
+func Genesis(p api.Params) api.Block {
+	b, _ := pow.Genesis(p)
+	return b
+}
+
+// Child returns a block behind parent, whose coinbase claims that much; those with other tags have other hashes.
+func Child(parent api.Block, tag int, claim int64, l ...api.Tx) api.Block {
+	base := Coinbase(tag, Out(claim, Yes()))
+	return Block(Hash(parent), parent.Header.Time+100, Easy, append([]api.Tx{base}, l...)...)
+}
+
+// Forest returns n blocks of several branches behind the genesis block of p, some of which are wrong, and a few of which stand ahead of their parents. All choices are those of pick, which returns a number below n.
+func Forest(p api.Params, n int, pick func(n int) int) []api.Block {
+	l := []api.Block{Genesis(p)}
+	for tag := range n {
+		parent := l[len(l)-1]
+		if pick(4) == 0 {
+			parent = l[max(0, len(l)-1-pick(9))]
+		}
+		l = append(l, twig(parent, tag, l[pick(len(l))].Txs[0], pick))
+	}
+	l = l[1:]
+	for i := range l {
+		j := min(len(l)-1, i+pick(3))
+		l[i], l[j] = l[j], l[i]
+	}
+	return l
+}
+
+// twig returns a block behind parent, which may spend a coinbase, or break a rule.
+func twig(parent api.Block, tag int, from api.Tx, pick func(n int) int) api.Block {
+	switch pick(12) {
+	case 0:
+		return Child(parent, tag, api.MaxMoney)
+	case 1:
+		return Child(parent, tag, 5, Pay([]api.Outpoint{{Tx: api.Hash{byte(tag)}}}, Out(0, nil)))
+	case 2:
+		b := Child(parent, tag, 5)
+		b.Header.Time = 0
+		return Mined(b)
+	case 3, 4, 5, 6:
+		scripts := [][]byte{Yes(), {api.OpReturn}, {api.OpOne + 1}}
+		return Child(parent, tag, 5, Pay([]api.Outpoint{Point(from, 0)}, Out(int64(pick(6)), scripts[pick(3)])))
+	}
+	return Child(parent, tag, 5)
 }
