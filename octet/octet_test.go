@@ -29,6 +29,7 @@ func TestPenFixed(t *testing.T) {
 		want string
 	}{
 		{4, 258, api.OK, "02010000"},
+		{1, 0, api.OK, "00"},
 		{1, 255, api.OK, "ff"},
 		{1, 256, api.ErrOctet, ""},
 		{2, 65535, api.OK, "ffff"},

@@ -20,6 +20,40 @@ func random(n int) []byte {
 	return b
 }
 
+// rootIsExact tells whether the root with that fraction is the greatest one that is not too great.
+func rootIsExact(prime int64, power int64, entry uint32) bool {
+	limit := new(big.Int).Lsh(big.NewInt(prime), uint(32*power))
+	for whole := int64(0); whole*whole <= prime; whole++ {
+		r := big.NewInt(whole<<32 | int64(entry))
+		next := new(big.Int).Add(r, big.NewInt(1))
+		r.Exp(r, big.NewInt(power), nil)
+		next.Exp(next, big.NewInt(power), nil)
+		if r.Cmp(limit) <= 0 && next.Cmp(limit) > 0 {
+			return true
+		}
+	}
+	return false
+}
+
+// P4.1, P4.4: first of all, so that nothing else has built the tables
+func TestRoots(t *testing.T) {
+	square, cube := sha.Roots()
+	if len(square) != 8 || len(cube) != 64 || square[0] != 0x6a09e667 || cube[0] != 0x428a2f98 {
+		t.Fatal(len(square), len(cube), square, cube)
+	}
+	prime := int64(1)
+	for i := range cube {
+		for prime++; !big.NewInt(prime).ProbablyPrime(0); prime++ {
+		}
+		if !rootIsExact(prime, 3, cube[i]) {
+			t.Errorf("cube root of %d: %08x", prime, cube[i])
+		}
+		if i < 8 && !rootIsExact(prime, 2, square[i]) {
+			t.Errorf("square root of %d: %08x", prime, square[i])
+		}
+	}
+}
+
 // P4.1
 func TestPublished(t *testing.T) {
 	for _, c := range []struct{ message, want string }{
@@ -49,40 +83,6 @@ func TestAgainstTheLibrary(t *testing.T) {
 		}
 		if got := sha.Short(b); !bytes.Equal(got, twice[:20]) {
 			t.Errorf("Short %d: %x", n, got)
-		}
-	}
-}
-
-// rootIsExact tells whether the root with that fraction is the greatest one that is not too great.
-func rootIsExact(prime int64, power int64, entry uint32) bool {
-	limit := new(big.Int).Lsh(big.NewInt(prime), uint(32*power))
-	for whole := int64(0); whole*whole <= prime; whole++ {
-		r := big.NewInt(whole<<32 | int64(entry))
-		next := new(big.Int).Add(r, big.NewInt(1))
-		r.Exp(r, big.NewInt(power), nil)
-		next.Exp(next, big.NewInt(power), nil)
-		if r.Cmp(limit) <= 0 && next.Cmp(limit) > 0 {
-			return true
-		}
-	}
-	return false
-}
-
-// P4.1, P4.4
-func TestRoots(t *testing.T) {
-	square, cube := sha.Roots()
-	if len(square) != 8 || len(cube) != 64 || square[0] != 0x6a09e667 || cube[0] != 0x428a2f98 {
-		t.Fatal(len(square), len(cube), square, cube)
-	}
-	prime := int64(1)
-	for i := range cube {
-		for prime++; !big.NewInt(prime).ProbablyPrime(0); prime++ {
-		}
-		if !rootIsExact(prime, 3, cube[i]) {
-			t.Errorf("cube root of %d: %08x", prime, cube[i])
-		}
-		if i < 8 && !rootIsExact(prime, 2, square[i]) {
-			t.Errorf("square root of %d: %08x", prime, square[i])
 		}
 	}
 }

@@ -91,16 +91,14 @@ nextBit:
 func quotientBits(a, b api.Wide, rest *api.Wide) iter.Seq2[int, bool] {
 	return func(yield func(int, bool) bool) {
 		for place := Len(a) - 1; place >= 0; place-- {
-			// The doubled rest may have 257 bits; the difference is right modulo 2^256 even then.
-			over := rest[words-1]>>(wordBits-1) != 0
+			// The rest is at most what was read of a so far, so that it still fits when it is doubled.
 			*rest = Left(*rest, 1)
 			rest[0] |= a[place/wordBits] >> (place % wordBits) & 1
 			difference, under := Sub(*rest, b)
-			fits := over || !under
-			if fits {
+			if !under {
 				*rest = difference
 			}
-			if !yield(place, fits) {
+			if !yield(place, !under) {
 				return
 			}
 		}
