@@ -90,7 +90,7 @@ func (c *Chain) mark(payload []byte) bool {
 
 func (c *Chain) cut(payload []byte) bool {
 	height, e := coin.CutOf(payload)
-	if e != api.OK || height >= len(c.active) || c.store.Cut(height) != api.OK {
+	if e != api.OK || c.store.Cut(height) != api.OK {
 		return false
 	}
 	c.active = c.active[:height+1]

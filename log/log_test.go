@@ -255,6 +255,25 @@ func TestAppend(t *testing.T) {
 	}
 }
 
+// P19.2: a segment is closed at exactly its size
+func TestExactSize(t *testing.T) {
+	for size, closed := range map[int]int{77: 1, 78: 1, 79: 0} {
+		l := open(t, newDisk(t, 10000), size)
+		if e := l.Append(group(40)); e != api.OK || len(l.Manifest().Parts) != closed || l.Bytes() != 78*(1-closed) {
+			t.Error(size, e, l.Manifest(), l.Bytes())
+		}
+	}
+}
+
+// P19.1: a log that is whole is only read
+func TestOpenWhole(t *testing.T) {
+	d := written(t)
+	before := d.Operations()
+	if l := open(t, d, 150); l.Count() != 10 || d.Operations() != before {
+		t.Error(l.Count(), d.Operations()-before)
+	}
+}
+
 // P19.2: an old file of the next segment is removed
 func TestOldNextSegment(t *testing.T) {
 	d := newDisk(t, 10000)

@@ -164,6 +164,21 @@ func TestReadMany(t *testing.T) {
 	}
 }
 
+// P17.2: the limit is that of one group
+func TestReadMuch(t *testing.T) {
+	var b []byte
+	for number := uint64(1); number <= 4; number++ {
+		part, e := segment.Encode(number, sizes(1200000))
+		if e != api.OK {
+			t.Fatal(e)
+		}
+		b = append(b, part...)
+	}
+	if l, end := segment.Read(b, 1); len(l) != 4 || end != 4800000 {
+		t.Error(len(l), end)
+	}
+}
+
 // P17.5
 func TestDamage(t *testing.T) {
 	r := rand.New(rand.NewSource(1))
