@@ -13,7 +13,7 @@ const (
 	rootBits = 40 // more than any of the roots has, with its fraction
 )
 
-// The tables take some thousand multiplications, so they are built once.
+// The tables take some thousand multiplications, so they are built once. Roots alone reads them.
 var (
 	built       sync.Once
 	squareRoots [squares]uint32

@@ -7,7 +7,6 @@ import (
 	"math/big"
 	"math/rand"
 	"strings"
-	"sync"
 	"testing"
 
 	"purser/api"
@@ -35,7 +34,7 @@ func rootIsExact(prime int64, power int64, entry uint32) bool {
 	return false
 }
 
-// P4.1, P4.4: first of all, so that nothing else has built the tables
+// P4.1, P4.4
 func TestRoots(t *testing.T) {
 	square, cube := sha.Roots()
 	if len(square) != 8 || len(cube) != 64 || square[0] != 0x6a09e667 || cube[0] != 0x428a2f98 {
@@ -161,17 +160,4 @@ func TestNothingIsShared(t *testing.T) {
 	if short = append(short, 1); len(short) != 21 || sha.Short(b)[0] != short[0] {
 		t.Error("Short gives memory twice")
 	}
-}
-
-// P4.1: the tables are built once, whoever is first
-func TestManyAtOnce(t *testing.T) {
-	var all sync.WaitGroup
-	for range 8 {
-		all.Go(func() {
-			if sha.Of([]byte("abc"))[0] != 0xba {
-				t.Error("another hash")
-			}
-		})
-	}
-	all.Wait()
 }

@@ -23,8 +23,7 @@ type Sum struct {
 
 // New returns a Sum of the empty message.
 func New() *Sum {
-	built.Do(build)
-	return &Sum{state: squareRoots, open: true}
+	return &Sum{state: squareTable(), open: true}
 }
 
 // Write appends b to the message.
@@ -106,12 +105,12 @@ func padding(length uint64) []byte {
 
 // mix brings the block into the state.
 func (s *Sum) mix() {
-	schedule := s.schedule()
+	cube, schedule := cubeTable(), s.schedule()
 	a, b, c, d, e, f, g, h := s.state[0], s.state[1], s.state[2], s.state[3], s.state[4], s.state[5], s.state[6], s.state[7]
 	for i := range rounds {
 		choice := e&f ^ ^e&g
 		majority := a&b ^ a&c ^ b&c
-		first := h + turned(e, 6, 11, 25) + choice + cubeRoots[i] + schedule[i]
+		first := h + turned(e, 6, 11, 25) + choice + cube[i] + schedule[i]
 		second := turned(a, 2, 13, 22) + majority
 		a, b, c, d, e, f, g, h = first+second, a, b, c, d+first, e, f, g
 	}
